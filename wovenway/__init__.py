@@ -1,0 +1,1 @@
+"""Wovenway: rows that are a rising one and a falling one woven."""

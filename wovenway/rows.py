@@ -1,0 +1,110 @@
+"""Rows of cards, and their partings into a side that rises and one that falls."""
+
+from wovenway.errors import NoRow
+
+MOST_CARDS = 40
+GREATEST = 1000000000
+
+UP = "up"
+DOWN = "down"
+EITHER = "either"
+
+
+def is_whole(thing):
+    """Tell whether the thing is a whole number."""
+    return isinstance(thing, int) and not isinstance(thing, bool)
+
+
+def is_number(thing):
+    """Tell whether the thing is a number that a card can have."""
+    return is_whole(thing) and 0 <= thing <= GREATEST
+
+
+def is_row(thing):
+    """Tell whether the thing is a row."""
+    if not isinstance(thing, tuple) or not 1 <= len(thing) <= MOST_CARDS:
+        return False
+    return all([is_number(card) for card in thing]) and len(set(thing)) == len(thing)
+
+
+def check_row(thing):
+    """Refuse what is no row."""
+    if not is_row(thing):
+        raise NoRow("a row is a tuple of 1 to 40 unlike whole numbers from 0 to 10 ** 9")
+
+
+def rises(numbers):
+    """Tell whether each of the numbers is greater than the one ahead of it."""
+    return all([number < later for number, later in zip(numbers, numbers[1:])])
+
+
+def are_places(row, thing):
+    """Tell whether the thing is a rising tuple of places of cards of the row."""
+    if not isinstance(thing, tuple):
+        return False
+    return all([is_whole(place) and 0 <= place < len(row) for place in thing]) and rises(thing)
+
+
+def cards_on(row, given, side):
+    """List the cards of the row that are given this side."""
+    return [card for card, told in zip(row, given) if told == side]
+
+
+def is_parting(row, thing):
+    """Tell whether the thing is a parting of the row."""
+    check_row(row)
+    if not isinstance(thing, tuple) or len(thing) != len(row):
+        return False
+    ups = cards_on(row, thing, UP)
+    downs = cards_on(row, thing, DOWN)
+    return len(ups) + len(downs) == len(row) and rises(ups) and rises(downs[::-1])
+
+
+def carried_on(start, card):
+    """List what a parting of the cards ahead becomes with one more card, the first one first."""
+    given, last_up, last_down = start
+    longer = []
+    if card < last_down:
+        longer.append(((*given, DOWN), last_up, card))
+    if card > last_up:
+        longer.append(((*given, UP), card, last_down))
+    return longer
+
+
+def all_partings(row):
+    """List all partings of the row, rising.
+
+    The partings of every beginning of the row are kept at once: there are
+    never more of them than one more than it has cards.
+    """
+    starts = [((), -1, GREATEST + 1)]
+    for card in row:
+        starts = [longer for start in starts for longer in carried_on(start, card)]
+    return [given for given, last_up, last_down in starts]
+
+
+def parting(row):
+    """Tell the first parting of the row, None where there is none."""
+    check_row(row)
+    partings = all_partings(row)
+    return partings[0] if partings else None
+
+
+def how_many(row):
+    """Tell how many partings of the row there are."""
+    check_row(row)
+    return len(all_partings(row))
+
+
+def sure_side(given):
+    """Tell the side that is given every time, "either" where both are."""
+    return given[0] if given.count(given[0]) == len(given) else EITHER
+
+
+def sides(row):
+    """Tell for each card the side that all partings have it on, None where there is no parting."""
+    check_row(row)
+    partings = all_partings(row)
+    if not partings:
+        return None
+    return tuple([sure_side(given) for given in zip(*partings)])
