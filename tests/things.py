@@ -1,6 +1,7 @@
 """What the tests share: rows to ask about, things of all kinds, and answers found the long way."""
 
 import copy
+import functools
 import itertools
 import random
 
@@ -53,6 +54,72 @@ def partings_of(row):
     return [given for given in ways if is_split(row, given)]
 
 
+def found_partings(row):
+    """All partings, in order: what does not part a beginning of the row does not part the row."""
+    found = [()]
+    for many in range(1, len(row) + 1):
+        longer = [given + (side,) for given in found for side in ("down", "up")]
+        found = [given for given in longer if is_split(row[:many], given)]
+    return found
+
+
+@functools.lru_cache(None)
+def is_woven_pattern(ranks):
+    return bool(found_partings(ranks))
+
+
+def is_woven(row):
+    return is_woven_pattern(ranked(row))
+
+
+def stayed(row, lot):
+    return tuple(card for place, card in enumerate(row) if place not in lot)
+
+
+def all_lots(row):
+    """All lots of places, the fewest first, and of as few the first one first."""
+    for many in range(len(row) + 1):
+        yield from itertools.combinations(range(len(row)), many)
+
+
+def lots_of(row):
+    """All lots that can be put elsewhere, the first of the fewest first."""
+    return [lot for lot in all_lots(row) if is_woven(stayed(row, lot))]
+
+
+def greatest_stay(row, worths):
+    """The greatest worth that can stay, found from the end of the row on."""
+    @functools.lru_cache(None)
+    def best(place, last_up, last_down):
+        if place == len(row):
+            return 0
+        card = row[place]
+        ways = [best(place + 1, last_up, last_down)]
+        if card > last_up:
+            ways.append(worths[place] + best(place + 1, card, last_down))
+        if card < last_down:
+            ways.append(worths[place] + best(place + 1, last_up, card))
+        return max(ways)
+    return best(0, -1, GREATEST + 1)
+
+
+def first_fewest(row):
+    """The fewest, and the first lot of as few, of long rows.
+
+    Worth are most of all how many cards stay, then how late they are: the
+    lot that is put elsewhere is the first where those that stay make up, with
+    the first place as the highest figure, the least number in twos.
+    """
+    many = len(row)
+    most = 2 ** (many + 1)
+    figures = [2 ** (many - 1 - place) for place in range(many)]
+    best = greatest_stay(row, tuple(most - figure for figure in figures))
+    stay = -(-best // most)
+    number = stay * most - best
+    lot = tuple(place for place in range(many) if not number & figures[place])
+    return many - stay, lot
+
+
 def sides_of(partings):
     if not partings:
         return None
@@ -97,6 +164,15 @@ def nearly_woven(chance, many):
     row = list(drawn_woven(chance, many)[0])
     one, other = chance.sample(range(many), 2)
     row[one], row[other] = row[other], row[one]
+    return tuple(row)
+
+
+def put_anew(chance, many, few):
+    """A woven row of which so few cards have been put elsewhere."""
+    row = list(drawn_woven(chance, many)[0])
+    for _ in range(few):
+        card = row.pop(chance.randrange(len(row)))
+        row.insert(chance.randint(0, len(row)), card)
     return tuple(row)
 
 

@@ -71,16 +71,31 @@ def carried_on(start, card):
     return longer
 
 
-def all_partings(row):
-    """List all partings of the row, rising.
+def longer_starts(starts, card):
+    """List what all partings of the cards ahead become with one more card, rising."""
+    return [longer for start in starts for longer in carried_on(start, card)]
 
-    The partings of every beginning of the row are kept at once: there are
+
+def all_starts(cards):
+    """List all partings of the cards, rising, each with the last number of its two sides.
+
+    The partings of every beginning of the cards are kept at once: there are
     never more of them than one more than it has cards.
     """
     starts = [((), -1, GREATEST + 1)]
-    for card in row:
-        starts = [longer for start in starts for longer in carried_on(start, card)]
-    return [given for given, last_up, last_down in starts]
+    for card in cards:
+        starts = longer_starts(starts, card)
+    return starts
+
+
+def all_partings(cards):
+    """List all partings of the cards, rising; of no cards there is one."""
+    return [given for given, last_up, last_down in all_starts(cards)]
+
+
+def is_woven(cards):
+    """Tell whether there is a parting of the cards; of no cards there is one."""
+    return len(all_starts(cards)) > 0
 
 
 def parting(row):
@@ -101,10 +116,13 @@ def sure_side(given):
     return given[0] if given.count(given[0]) == len(given) else EITHER
 
 
+def sure_sides(partings):
+    """Tell for each card the side that all of the partings, one at least, have it on."""
+    return tuple([sure_side(given) for given in zip(*partings)])
+
+
 def sides(row):
     """Tell for each card the side that all partings have it on, None where there is no parting."""
     check_row(row)
     partings = all_partings(row)
-    if not partings:
-        return None
-    return tuple([sure_side(given) for given in zip(*partings)])
+    return sure_sides(partings) if partings else None
