@@ -7,6 +7,7 @@ import unittest
 
 import things
 from wovenway.elsewhere import can_be, fewest, worth, worthiest, woven_of
+from wovenway.rows import parting
 
 GREATEST = things.GREATEST
 
@@ -24,6 +25,16 @@ def long_rows():
     yield from things.long_bad_rows()
     for row, few in moved_rows():
         yield row
+
+
+def drawn_and_moved(seed, rounds, most):
+    """Drawn rows of all lengths up to the most, and woven ones with some cards put elsewhere, with how many."""
+    chance = random.Random(seed)
+    for many in range(1, most + 1):
+        for _ in range(rounds):
+            yield things.drawn_row(chance, many), None
+            few = chance.randint(0, min(many, 6))
+            yield things.put_anew(chance, many, few), few
 
 
 def drawn_worths(chance, many):
@@ -61,6 +72,23 @@ class Fewest(unittest.TestCase):
         for row in things.drawn_rows(71, 12, 7, 9):
             first = things.lots_of(row)[0]
             self.told(row, (len(first), first))
+
+    def test_drawn_and_moved_rows_against_all_lots(self):
+        for row, few in drawn_and_moved(75, 12, 9):
+            first = things.lots_of(row)[0]
+            self.told(row, (len(first), first))
+
+    def test_drawn_and_moved_rows_of_up_to_40_cards(self):
+        for row, few in drawn_and_moved(76, 4, 40):
+            least, lot = fewest(row)
+            self.assertEqual(least, len(lot))
+            self.assertTrue(things.is_woven(things.stayed(row, lot)), row)
+            if few is not None:
+                self.assertLessEqual(least, few)
+
+    def test_first_lots_of_rows_of_up_to_40_cards(self):
+        for row, few in drawn_and_moved(77, 1, 40):
+            self.told(row, things.first_fewest(row))
 
     def test_rows_of_40_cards(self):
         for row in long_rows():
@@ -101,6 +129,10 @@ class WovenOf(unittest.TestCase):
 
     def test_drawn_rows(self):
         for row in things.drawn_rows(72, 25, 7, 39):
+            self.told(row)
+
+    def test_drawn_and_moved_rows(self):
+        for row, few in drawn_and_moved(78, 3, 40):
             self.told(row)
 
     def test_rows_of_40_cards(self):
@@ -147,6 +179,10 @@ class CanBe(unittest.TestCase):
                 self.told(row, lot, things.is_woven(things.stayed(row, lot)))
                 more = tuple(sorted(set(lot) | set(first)))
                 self.told(row, more, True)
+
+    def test_none_put_elsewhere(self):
+        for row in itertools.chain(things.small_rows(7), things.drawn_rows(79, 60, 8, 40), long_rows()):
+            self.told(row, (), parting(row) is not None)
 
     def test_all_places(self):
         for row in ((5,), (2, 1, 4, 3), tuple(number ^ 1 for number in range(40))):
@@ -227,6 +263,22 @@ class Worth(unittest.TestCase):
         for row in things.drawn_rows(83, 8, 7, 9):
             self.against_all_lots(row, chance)
 
+    def test_drawn_and_moved_rows_against_all_lots(self):
+        chance = random.Random(86)
+        for row, few in drawn_and_moved(87, 6, 9):
+            self.against_all_lots(row, chance)
+
+    def test_drawn_and_moved_rows_of_up_to_40_cards(self):
+        chance = random.Random(88)
+        for at, (row, few) in enumerate(drawn_and_moved(89, 1, 40)):
+            worths = list(drawn_worths(chance, len(row)))[at % 6]
+            self.told(row, worths, things.greatest_stay(row, worths))
+
+    def test_cards_that_are_worth_nothing_stay_in_a_woven_row(self):
+        for row, given in things.long_woven_rows():
+            for worths in ((0,) * 40, (0, 7) * 20):
+                self.assertEqual(worthiest(row, worths), tuple(range(40)))
+
     def test_rows_of_40_cards(self):
         chance = random.Random(84)
         for at, row in enumerate(long_rows()):
@@ -236,6 +288,8 @@ class Worth(unittest.TestCase):
 
     def test_worths_of_one_each(self):
         for row in itertools.chain(things.small_rows(5), things.drawn_rows(85, 10, 10, 30), long_rows()):
+            self.told(row, (1,) * len(row), len(row) - fewest(row)[0])
+        for row, few in drawn_and_moved(90, 4, 40):
             self.told(row, (1,) * len(row), len(row) - fewest(row)[0])
 
 

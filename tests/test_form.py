@@ -24,7 +24,7 @@ LAID_METHODS = ("lay", "take", "cards", "partings", "sides", "can_be_laid", "__l
 
 # Of the builtins that the package may use, those that it does.
 BUILTINS = {
-    "len", "range", "enumerate", "zip", "min", "sum", "sorted", "int", "bool", "list", "tuple", "set", "isinstance",
+    "len", "range", "enumerate", "zip", "max", "sorted", "int", "bool", "list", "tuple", "set", "isinstance",
     "all", "super", "ValueError",
 }
 

@@ -7,6 +7,7 @@ import unittest
 
 import things
 from wovenway.rings import seams
+from wovenway.rows import parting
 
 GREATEST = things.GREATEST
 
@@ -25,6 +26,21 @@ def long_rings():
         yield cut(row, chance.randrange(40))
     yield tuple(range(40))
     yield from things.long_bad_rows()
+
+
+def rings_of_all_kinds(chance, many):
+    """Rings in order, falling, woven by turns, woven, drawn, and with some cards put elsewhere."""
+    by_turns = tuple(50 + step // 2 if step % 2 == 0 else 49 - step // 2 for step in range(many))
+    for ring in (tuple(range(many)), tuple(range(many, 0, -1)), by_turns, by_turns[::-1]):
+        yield ring
+        yield cut(ring, chance.randrange(many))
+        moved = list(ring)
+        moved.insert(chance.randrange(many), moved.pop(chance.randrange(many)))
+        yield tuple(moved)
+    yield things.drawn_woven(chance, many)[0]
+    yield things.drawn_row(chance, many)
+    for few in (1, 2, 5):
+        yield cut(things.put_anew(chance, many, few), chance.randrange(many))
 
 
 class Seams(unittest.TestCase):
@@ -59,6 +75,13 @@ class Seams(unittest.TestCase):
             self.told(ring)
             found += len(seams(ring)) > 0
         self.assertGreater(found, 0)
+
+    def test_rings_of_all_kinds_against_parting(self):
+        chance = random.Random(92)
+        for many in range(1, 41):
+            for ring in rings_of_all_kinds(chance, many):
+                wanted = [seam for seam in range(many) if parting(cut(ring, seam)) is not None]
+                things.same_kind(self, things.unchanged(self, seams, ring), wanted)
 
     def test_told_from_another_card(self):
         for ring in itertools.chain(things.small_rows(5), long_rings()):

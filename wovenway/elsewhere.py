@@ -1,7 +1,7 @@
 """The fewest cards that must be put elsewhere, and the greatest worth that can stay."""
 
 from wovenway.errors import NoWorths
-from wovenway.rows import GREATEST, UP, all_partings, are_places, check_row, is_number, is_woven
+from wovenway.rows import UP, all_partings, are_places, check_row, is_number, is_woven
 
 
 def are_worths(row, thing):
@@ -22,44 +22,74 @@ def staying(row, lot):
     return tuple([card for place, card in enumerate(row) if place not in lot])
 
 
-def keep_first(firsts, ends, told):
-    """Keep what is told of these ends where it goes ahead of what was told of them."""
-    if ends not in firsts or told < firsts[ends]:
-        firsts[ends] = told
+def rising_worths(ranks, worths):
+    """List for each beginning, and each bound, the greatest worth of cards of it below the bound that rise."""
+    greatest = [0] * (len(ranks) + 1)
+    told = [greatest]
+    for rank, own in zip(ranks, worths):
+        with_it = greatest[rank] + own
+        greatest = greatest[:rank + 1] + [with_it if other < with_it else other for other in greatest[rank + 1:]]
+        told.append(greatest)
+    return told
 
 
-def with_card(firsts, place, card, price):
-    """Tell anew, with one more card, for the last numbers of the two sides what was paid, and for which lot."""
-    later = {}
-    for ends in firsts:
-        last_up, last_down = ends
-        paid, lot = firsts[ends]
-        keep_first(later, ends, (paid + price, (*lot, place)))
-        if card > last_up:
-            keep_first(later, (card, last_down), (paid, lot))
-        if card < last_down:
-            keep_first(later, (last_up, card), (paid, lot))
-    return later
+def best_at_cut(low_ahead, low_behind, high_ahead, high_behind):
+    """Tell the greatest worth of the four quarters together, over all bounds between the low and the high ones.
 
-
-def cheapest(row, prices):
-    """Tell the least price of a lot that can be put elsewhere, and such a lot.
-
-    What can come behind a beginning hangs only on the last numbers of its two
-    sides, so of all lots with the same ones a single one is kept, the first of
-    the cheapest. At prices of one each the cheapest have as many places as one
-    another, so that the first stays ahead whatever comes behind.
+    The bounds of the high ones were told upside down, so that they are read from their end.
     """
-    firsts = {(-1, GREATEST + 1): (0, ())}
-    for place, card in enumerate(row):
-        firsts = with_card(firsts, place, card, prices[place])
-    return min(list(firsts.values()))
+    return max([
+        one + two + three + last
+        for one, two, three, last in zip(low_ahead, low_behind, high_ahead[::-1], high_behind[::-1])
+    ])
+
+
+def greatest_worth(row, worths):
+    """Tell the greatest worth that cards which stay and are woven can have together.
+
+    The last numbers of the two sides near one another until the one goes past
+    the other, and from then on no card lies between them. So cards are woven
+    just where a place and a bound cut them into quarters of which the low one
+    ahead and the high one behind rise, the two others fall. No quarter hangs on
+    another one; upside down, or read from its end, each is low, ahead and rises.
+    """
+    order = {card: rank for rank, card in enumerate(sorted(row))}
+    ranks = [order[card] for card in row]
+    turned = [len(row) - 1 - rank for rank in ranks]
+    low_ahead = rising_worths(ranks, worths)
+    high_ahead = rising_worths(turned, worths)
+    low_behind = rising_worths(ranks[::-1], worths[::-1])[::-1]
+    high_behind = rising_worths(turned[::-1], worths[::-1])[::-1]
+    return max([best_at_cut(*quarters) for quarters in zip(low_ahead, low_behind, high_ahead, high_behind)])
+
+
+def with_figure(own, figure, many):
+    """Tell a worth that shows, in a sum of such, by its figure in twos whether the card is among them.
+
+    Taken off from what counts ahead of the figures shown, the figure makes of
+    lots that are as good the first one the best to put elsewhere. From nothing
+    it is not taken, so that a card which is worth nothing stays where it can.
+    """
+    counted = (own << many) - figure if own > 0 else 0
+    return (counted << many) + figure
+
+
+def best_to_stay(row, worths):
+    """List the places of cards of the greatest worth that can stay.
+
+    Where none is worth nothing, the others are the first of the lots as good.
+    """
+    figures = [1 << place for place in range(len(row))][::-1]
+    shown = greatest_worth(row, [with_figure(own, figure, len(row)) for own, figure in zip(worths, figures)])
+    return [place for place, figure in enumerate(figures) if shown & figure]
 
 
 def fewest(row):
     """Tell how few cards must be put elsewhere, and the places of the first lot of as few."""
     check_row(row)
-    return cheapest(row, (1,) * len(row))
+    stay = best_to_stay(row, (1,) * len(row))
+    lot = [place for place in range(len(row)) if place not in stay]
+    return (len(lot), tuple(lot))
 
 
 def put_in(woven, card):
@@ -90,12 +120,11 @@ def worth(row, worths):
     """Tell the greatest worth that cards which stay and are woven can have together."""
     check_row(row)
     check_worths(row, worths)
-    return sum(worths) - cheapest(row, worths)[0]
+    return greatest_worth(row, worths)
 
 
 def worthiest(row, worths):
     """Tell the places of cards of the greatest worth that can stay."""
     check_row(row)
     check_worths(row, worths)
-    lot = cheapest(row, worths)[1]
-    return tuple([place for place in range(len(row)) if place not in lot])
+    return tuple(best_to_stay(row, worths))

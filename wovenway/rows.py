@@ -60,20 +60,15 @@ def is_parting(row, thing):
     return len(ups) + len(downs) == len(row) and rises(ups) and rises(downs[::-1])
 
 
-def carried_on(start, card):
-    """List what a parting of the cards ahead becomes with one more card, the first one first."""
-    given, last_up, last_down = start
-    longer = []
-    if card < last_down:
-        longer.append(((*given, DOWN), last_up, card))
-    if card > last_up:
-        longer.append(((*given, UP), card, last_down))
-    return longer
-
-
 def longer_starts(starts, card):
     """List what all partings of the cards ahead become with one more card, rising."""
-    return [longer for start in starts for longer in carried_on(start, card)]
+    longer = []
+    for given, last_up, last_down in starts:
+        if card < last_down:
+            longer.append((given + (DOWN,), last_up, card))
+        if card > last_up:
+            longer.append((given + (UP,), card, last_down))
+    return longer
 
 
 def all_starts(cards):
@@ -93,9 +88,40 @@ def all_partings(cards):
     return [given for given, last_up, last_down in all_starts(cards)]
 
 
+def is_outward(cards, low, high):
+    """Tell whether each of the cards lies outside of the two numbers and of all cards ahead of it."""
+    for card in cards:
+        if card > high:
+            high = card
+        elif card < low:
+            low = card
+        else:
+            return False
+    return True
+
+
 def is_woven(cards):
-    """Tell whether there is a parting of the cards; of no cards there is one."""
-    return len(all_starts(cards)) > 0
+    """Tell whether there is a parting of the cards; of no cards there is one.
+
+    While the cards lie between the last numbers of the two sides, the one ahead
+    of a card goes to the side that leaves this card between them. Behind the
+    first card that does not lie there no card has a choice, and no other parting
+    of the cards so far leaves those behind it more room than the one made so.
+    """
+    low = -1
+    high = GREATEST + 1
+    ahead = low
+    for place, card in enumerate(cards):
+        if card > high:
+            return is_outward(cards[place + 1:], high, card)
+        if card < low:
+            return is_outward(cards[place + 1:], card, low)
+        if card > ahead:
+            low = ahead
+        else:
+            high = ahead
+        ahead = card
+    return True
 
 
 def parting(row):
